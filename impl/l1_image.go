@@ -1,0 +1,188 @@
+package impl
+
+// MaxSide is the largest width and height of an image.
+const MaxSide = 16
+
+// MaxPlanes is the largest number of planes.
+const MaxPlanes = 4
+
+// maxNumber is the largest number of a pixel, a byte or a row.
+const maxNumber = 255
+
+// Image is an image with its pixels row by row.
+type Image struct {
+	Width  int
+	Height int
+	Planes int
+	Data   []int
+}
+
+// Box is a rectangle of pixels.
+type Box struct {
+	X      int
+	Y      int
+	Width  int
+	Height int
+}
+
+// color is the numbers of a pixel. It is an array, so that a copy of a cell
+// shares no memory; planes that the image does not have stay 0.
+type color [MaxPlanes]int
+
+// grid is a rectangle of cells, row by row from the upper left one on.
+type grid[T any] struct {
+	width  int
+	height int
+	cells  []T
+}
+
+// buildGrid returns the grid whose cells a function tells.
+func buildGrid[T any](width int, height int, cell func(x int, y int) T) grid[T] {
+	cells := make([]T, 0, width*height)
+	for y := range height {
+		for x := range width {
+			cells = append(cells, cell(x, y))
+		}
+	}
+	return grid[T]{width, height, cells}
+}
+
+// has reports whether there is a cell in column x and row y.
+func (g grid[T]) has(x int, y int) bool {
+	return inRange(x, 0, g.width-1) && inRange(y, 0, g.height-1)
+}
+
+// at returns the cell in column x and row y, which must be there.
+func (g grid[T]) at(x int, y int) T {
+	return g.cells[y*g.width+x]
+}
+
+// set replaces the cell in column x and row y, which must be there.
+func (g grid[T]) set(x int, y int, cell T) {
+	g.cells[y*g.width+x] = cell
+}
+
+// gridOf returns the pixels of a valid image.
+func gridOf(m Image) grid[color] {
+	return buildGrid(m.Width, m.Height, func(x int, y int) color {
+		first := (y*m.Width + x) * m.Planes
+		return colorOf(m.Data[first : first+m.Planes])
+	})
+}
+
+// imageOf returns the image of pixels with a number of planes.
+func imageOf(g grid[color], planes int) Image {
+	data := make([]int, 0, len(g.cells)*planes)
+	for _, c := range g.cells {
+		data = append(data, c[:planes]...)
+	}
+	return Image{Width: g.width, Height: g.height, Planes: planes, Data: data}
+}
+
+// colorOf returns the color with at most MaxPlanes numbers.
+func colorOf(pixel []int) color {
+	var c color
+	copy(c[:], pixel)
+	return c
+}
+
+// inRange reports whether a number is in low..high.
+func inRange(n int, low int, high int) bool {
+	return low <= n && n <= high
+}
+
+// areBytes reports whether all numbers are in 0..255.
+func areBytes(list []int) bool {
+	for _, n := range list {
+		if !inRange(n, 0, maxNumber) {
+			return false
+		}
+	}
+	return true
+}
+
+// validShape reports whether an image may have these sides and planes.
+func validShape(width int, height int, planes int) bool {
+	return inRange(width, 1, MaxSide) && inRange(height, 1, MaxSide) && inRange(planes, 1, MaxPlanes)
+}
+
+// validPixel reports whether numbers are a pixel with a number of planes.
+func validPixel(pixel []int, planes int) bool {
+	return len(pixel) == planes && areBytes(pixel)
+}
+
+// hasPlace reports whether a pixel of an image is in column x and row y.
+func hasPlace(m Image, x int, y int) bool {
+	return inRange(x, 0, m.Width-1) && inRange(y, 0, m.Height-1)
+}
+
+// hasBox reports whether all pixels of a box are on an image. It compares
+// sides with what is left, because the sum of place and side might overflow.
+func hasBox(m Image, b Box) bool {
+	return hasPlace(m, b.X, b.Y) && inRange(b.Width, 1, m.Width-b.X) && inRange(b.Height, 1, m.Height-b.Y)
+}
+
+// ValidImage reports whether an image is valid.
+func ValidImage(m Image) bool {
+	return validShape(m.Width, m.Height, m.Planes) &&
+		len(m.Data) == m.Width*m.Height*m.Planes && areBytes(m.Data)
+}
+
+// FillImage returns an image with equal pixels.
+func FillImage(width int, height int, pixel []int) Image {
+	planes := len(pixel)
+	if !validShape(width, height, planes) || !validPixel(pixel, planes) {
+		return Image{}
+	}
+	c := colorOf(pixel)
+	return imageOf(buildGrid(width, height, func(x int, y int) color { return c }), planes)
+}
+
+// PixelAt returns the numbers of a pixel.
+func PixelAt(m Image, x int, y int) []int {
+	if !ValidImage(m) || !hasPlace(m, x, y) {
+		return nil
+	}
+	c := gridOf(m).at(x, y)
+	return c[:m.Planes:m.Planes]
+}
+
+// SetPixel returns an image in which a pixel has given numbers.
+func SetPixel(m Image, x int, y int, pixel []int) (Image, bool) {
+	if !ValidImage(m) || !hasPlace(m, x, y) || !validPixel(pixel, m.Planes) {
+		return Image{}, false
+	}
+	g := gridOf(m)
+	g.set(x, y, colorOf(pixel))
+	return imageOf(g, m.Planes), true
+}
+
+// CropImage returns a part of an image.
+func CropImage(m Image, b Box) (Image, bool) {
+	if !ValidImage(m) || !hasBox(m, b) {
+		return Image{}, false
+	}
+	g := gridOf(m)
+	part := buildGrid(b.Width, b.Height, func(x int, y int) color {
+		return g.at(b.X+x, b.Y+y)
+	})
+	return imageOf(part, m.Planes), true
+}
+
+// PasteImage returns an image with another one over a part of it.
+func PasteImage(m Image, x int, y int, part Image) (Image, bool) {
+	if !ValidImage(m) || !ValidImage(part) || m.Planes != part.Planes {
+		return Image{}, false
+	}
+	if !inRange(x, -MaxSide, MaxSide) || !inRange(y, -MaxSide, MaxSide) {
+		return Image{}, false
+	}
+	below, above := gridOf(m), gridOf(part)
+	pasted := buildGrid(m.Width, m.Height, func(column int, row int) color {
+		if above.has(column-x, row-y) {
+			return above.at(column-x, row-y)
+		}
+		return below.at(column, row)
+	})
+	return imageOf(pasted, m.Planes), true
+}
