@@ -79,11 +79,52 @@ func imageOf(g grid[color], planes int) Image {
 	return Image{Width: g.width, Height: g.height, Planes: planes, Data: data}
 }
 
+// planeOf returns the numbers of one plane of a valid image.
+func planeOf(m Image, plane int) grid[int] {
+	return buildGrid(m.Width, m.Height, func(x int, y int) int {
+		return m.Data[(y*m.Width+x)*m.Planes+plane]
+	})
+}
+
+// joinPlanes returns the image of planes, at least one, of the same shape.
+func joinPlanes(list ...grid[int]) Image {
+	first := list[0]
+	data := make([]int, 0, len(first.cells)*len(list))
+	for i := range first.cells {
+		for _, g := range list {
+			data = append(data, g.cells[i])
+		}
+	}
+	return Image{Width: first.width, Height: first.height, Planes: len(list), Data: data}
+}
+
 // colorOf returns the color with at most MaxPlanes numbers.
 func colorOf(pixel []int) color {
 	var c color
 	copy(c[:], pixel)
 	return c
+}
+
+// pixelOf returns the numbers of a color with a number of planes. The color
+// is a copy of its own, so that no two pixels share memory.
+func pixelOf(c color, planes int) []int {
+	return c[:planes:planes]
+}
+
+// divideDown returns a quotient rounded down, also for a negative number,
+// which the operator / rounds up. The divisor is at least 1.
+func divideDown(n int, divisor int) int {
+	quotient := n / divisor
+	if n%divisor < 0 {
+		quotient--
+	}
+	return quotient
+}
+
+// divideNearest returns a quotient rounded to the nearest number, halves up.
+// The divisor is at least 1.
+func divideNearest(n int, divisor int) int {
+	return divideDown(2*n+divisor, 2*divisor)
 }
 
 // inRange reports whether a number is in low..high.
@@ -143,8 +184,7 @@ func PixelAt(m Image, x int, y int) []int {
 	if !ValidImage(m) || !hasPlace(m, x, y) {
 		return nil
 	}
-	c := gridOf(m).at(x, y)
-	return c[:m.Planes:m.Planes]
+	return pixelOf(gridOf(m).at(x, y), m.Planes)
 }
 
 // SetPixel returns an image in which a pixel has given numbers.

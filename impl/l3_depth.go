@@ -97,7 +97,7 @@ func ReduceDepth(n int, depth int) int {
 		return -1
 	}
 	// There are no halves: twice the product is even, and 255 is odd.
-	return (2*n*topOf(depth) + maxNumber) / (2 * maxNumber)
+	return divideNearest(n*topOf(depth), maxNumber)
 }
 
 // ExpandDepth returns a number expanded from a depth.

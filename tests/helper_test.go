@@ -131,6 +131,48 @@ func keeps(t *testing.T, what string, call func() [][]int, arguments ...[]int) {
 	}
 }
 
+// apart fails if slices of one result share memory: it writes the number of
+// each slice over all of its memory, and looks whether all of it is left.
+func apart(t *testing.T, what string, lists [][]int) {
+	t.Helper()
+	for i, list := range lists {
+		for j := range list[:cap(list)] {
+			list[:cap(list)][j] = i
+		}
+	}
+	for i, list := range lists {
+		for _, n := range list[:cap(list)] {
+			if n != i {
+				t.Fatalf("%s: slices %d and %d share memory", what, i, n)
+			}
+		}
+	}
+}
+
+// roundHalfUp returns a quotient rounded to the nearest number, halves up.
+func roundHalfUp(n int, divisor int) int {
+	return int(math.Floor(float64(n)/float64(divisor) + 0.5))
+}
+
+// floorOf returns a quotient rounded down.
+func floorOf(n int, divisor int) int {
+	return int(math.Floor(float64(n) / float64(divisor)))
+}
+
+// planeNumbers returns the numbers of one plane of an image.
+func planeNumbers(m impl.Image, plane int) []int {
+	var out []int
+	for i := plane; i < len(m.Data); i += m.Planes {
+		out = append(out, m.Data[i])
+	}
+	return out
+}
+
+// onePlane returns an image with one plane whose height follows from its numbers.
+func onePlane(width int, data ...int) impl.Image {
+	return impl.Image{Width: width, Height: len(data) / width, Planes: 1, Data: data}
+}
+
 // clones returns copies of lists.
 func clones(lists [][]int) [][]int {
 	var out [][]int
