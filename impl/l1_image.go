@@ -157,10 +157,17 @@ func hasPlace(m Image, x int, y int) bool {
 	return inRange(x, 0, m.Width-1) && inRange(y, 0, m.Height-1)
 }
 
-// hasBox reports whether all pixels of a box are on an image. It compares
-// sides with what is left, because the sum of place and side might overflow.
+// fitsBox reports whether a box has pixels, and all of them in columns and
+// rows from 0 on, so many of them. It compares sides with what is left,
+// because the sum of place and side might overflow.
+func fitsBox(b Box, width int, height int) bool {
+	return inRange(b.X, 0, width-1) && inRange(b.Width, 1, width-b.X) &&
+		inRange(b.Y, 0, height-1) && inRange(b.Height, 1, height-b.Y)
+}
+
+// hasBox reports whether all pixels of a box are on an image.
 func hasBox(m Image, b Box) bool {
-	return hasPlace(m, b.X, b.Y) && inRange(b.Width, 1, m.Width-b.X) && inRange(b.Height, 1, m.Height-b.Y)
+	return fitsBox(b, m.Width, m.Height)
 }
 
 // ValidImage reports whether an image is valid.
