@@ -47,6 +47,11 @@ func buildGrid[T any](width int, height int, cell func(x int, y int) T) grid[T] 
 	return grid[T]{width, height, cells}
 }
 
+// buildPart returns the cells in a box of a whole whose cells a function tells.
+func buildPart[T any](b Box, cell func(x int, y int) T) grid[T] {
+	return buildGrid(b.Width, b.Height, func(x int, y int) T { return cell(b.X+x, b.Y+y) })
+}
+
 // has reports whether there is a cell in column x and row y.
 func (g grid[T]) has(x int, y int) bool {
 	return inRange(x, 0, g.width-1) && inRange(y, 0, g.height-1)
@@ -60,6 +65,18 @@ func (g grid[T]) at(x int, y int) T {
 // set replaces the cell in column x and row y, which must be there.
 func (g grid[T]) set(x int, y int, cell T) {
 	g.cells[y*g.width+x] = cell
+}
+
+// paste replaces the cells from column x and row y on by those of a part, as
+// far as they are there.
+func (g grid[T]) paste(x int, y int, part grid[T]) {
+	for row := range part.height {
+		for column := range part.width {
+			if g.has(x+column, y+row) {
+				g.set(x+column, y+row, part.at(column, row))
+			}
+		}
+	}
 }
 
 // gridOf returns the pixels of a valid image.
@@ -157,6 +174,12 @@ func hasPlace(m Image, x int, y int) bool {
 	return inRange(x, 0, m.Width-1) && inRange(y, 0, m.Height-1)
 }
 
+// isNear reports whether column x and row y are places to which an image, a
+// layer or a region may be moved.
+func isNear(x int, y int) bool {
+	return inRange(x, -MaxSide, MaxSide) && inRange(y, -MaxSide, MaxSide)
+}
+
 // fitsBox reports whether a box has pixels, and all of them in columns and
 // rows from 0 on, so many of them. It compares sides with what is left,
 // because the sum of place and side might overflow.
@@ -209,27 +232,15 @@ func CropImage(m Image, b Box) (Image, bool) {
 	if !ValidImage(m) || !hasBox(m, b) {
 		return Image{}, false
 	}
-	g := gridOf(m)
-	part := buildGrid(b.Width, b.Height, func(x int, y int) color {
-		return g.at(b.X+x, b.Y+y)
-	})
-	return imageOf(part, m.Planes), true
+	return imageOf(buildPart(b, gridOf(m).at), m.Planes), true
 }
 
 // PasteImage returns an image with another one over a part of it.
 func PasteImage(m Image, x int, y int, part Image) (Image, bool) {
-	if !ValidImage(m) || !ValidImage(part) || m.Planes != part.Planes {
+	if !ValidImage(m) || !ValidImage(part) || m.Planes != part.Planes || !isNear(x, y) {
 		return Image{}, false
 	}
-	if !inRange(x, -MaxSide, MaxSide) || !inRange(y, -MaxSide, MaxSide) {
-		return Image{}, false
-	}
-	below, above := gridOf(m), gridOf(part)
-	pasted := buildGrid(m.Width, m.Height, func(column int, row int) color {
-		if above.has(column-x, row-y) {
-			return above.at(column-x, row-y)
-		}
-		return below.at(column, row)
-	})
-	return imageOf(pasted, m.Planes), true
+	g := gridOf(m)
+	g.paste(x, y, gridOf(part))
+	return imageOf(g, m.Planes), true
 }
