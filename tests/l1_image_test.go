@@ -25,6 +25,24 @@ func boxesOf(m impl.Image) []impl.Box {
 	return out
 }
 
+// badBoxes returns boxes that are not on an image.
+func badBoxes(m impl.Image) []impl.Box {
+	w, h := m.Width, m.Height
+	return []impl.Box{
+		{}, {X: 0, Y: 0, Width: w + 1, Height: h}, {X: 0, Y: 0, Width: w, Height: h + 1},
+		{X: 1, Y: 0, Width: w, Height: 1}, {X: 0, Y: 1, Width: 1, Height: h},
+		{X: w - 1, Y: h - 1, Width: 2, Height: 1}, {X: w - 1, Y: h - 1, Width: 1, Height: 2},
+		{X: w, Y: 0, Width: 1, Height: 1}, {X: 0, Y: h, Width: 1, Height: 1},
+		{X: w, Y: 0, Width: 0, Height: 1}, {X: 0, Y: h, Width: 1, Height: 0},
+		{X: -1, Y: 0, Width: 1, Height: 1}, {X: 0, Y: -1, Width: 1, Height: 1}, {X: -1, Y: 0, Width: 2, Height: 1},
+		{X: 0, Y: -1, Width: 1, Height: 2}, {X: 0, Y: 0, Width: 0, Height: 1}, {X: 0, Y: 0, Width: 1, Height: 0},
+		{X: 0, Y: 0, Width: -1, Height: 1}, {X: 0, Y: 0, Width: 1, Height: -1}, {X: 0, Y: 0, Width: -1, Height: -1},
+		{X: w - 1, Y: 0, Width: math.MaxInt, Height: 1}, {X: 0, Y: h - 1, Width: 1, Height: math.MaxInt},
+		{X: math.MaxInt, Y: 0, Width: 1, Height: 1}, {X: math.MaxInt, Y: math.MaxInt, Width: math.MaxInt, Height: math.MaxInt},
+		{X: math.MinInt, Y: 0, Width: math.MinInt, Height: 1}, {X: 0, Y: 0, Width: math.MinInt, Height: math.MinInt},
+	}
+}
+
 // outside returns places that are not on an image.
 func outside(m impl.Image) [][2]int {
 	return [][2]int{
@@ -205,22 +223,9 @@ func TestP5PartsCanBePutBack(t *testing.T) {
 
 func TestP5CropImageFails(t *testing.T) {
 	for _, m := range pictures() {
-		w, h := m.Width, m.Height
-		for _, b := range []impl.Box{
-			{}, {X: 0, Y: 0, Width: w + 1, Height: h}, {X: 0, Y: 0, Width: w, Height: h + 1},
-			{X: 1, Y: 0, Width: w, Height: 1}, {X: 0, Y: 1, Width: 1, Height: h},
-			{X: w - 1, Y: h - 1, Width: 2, Height: 1}, {X: w - 1, Y: h - 1, Width: 1, Height: 2},
-			{X: w, Y: 0, Width: 1, Height: 1}, {X: 0, Y: h, Width: 1, Height: 1},
-			{X: w, Y: 0, Width: 0, Height: 1}, {X: 0, Y: h, Width: 1, Height: 0},
-			{X: -1, Y: 0, Width: 1, Height: 1}, {X: 0, Y: -1, Width: 1, Height: 1}, {X: -1, Y: 0, Width: 2, Height: 1},
-			{X: 0, Y: -1, Width: 1, Height: 2}, {X: 0, Y: 0, Width: 0, Height: 1}, {X: 0, Y: 0, Width: 1, Height: 0},
-			{X: 0, Y: 0, Width: -1, Height: 1}, {X: 0, Y: 0, Width: 1, Height: -1}, {X: 0, Y: 0, Width: -1, Height: -1},
-			{X: w - 1, Y: 0, Width: math.MaxInt, Height: 1}, {X: 0, Y: h - 1, Width: 1, Height: math.MaxInt},
-			{X: math.MaxInt, Y: 0, Width: 1, Height: 1}, {X: math.MaxInt, Y: math.MaxInt, Width: math.MaxInt, Height: math.MaxInt},
-			{X: math.MinInt, Y: 0, Width: math.MinInt, Height: 1}, {X: 0, Y: 0, Width: math.MinInt, Height: math.MinInt},
-		} {
+		for _, b := range badBoxes(m) {
 			if out, ok := impl.CropImage(m, b); ok || !isZero(out) {
-				t.Errorf("CropImage of %d by %d with %v", w, h, b)
+				t.Errorf("CropImage of %d by %d with %v", m.Width, m.Height, b)
 			}
 		}
 	}
