@@ -144,6 +144,11 @@ func divideNearest(n int, divisor int) int {
 	return divideDown(2*n+divisor, 2*divisor)
 }
 
+// square returns a number times itself.
+func square(n int) int {
+	return n * n
+}
+
 // inRange reports whether a number is in low..high.
 func inRange(n int, low int, high int) bool {
 	return low <= n && n <= high
@@ -197,6 +202,11 @@ func hasBox(m Image, b Box) bool {
 func ValidImage(m Image) bool {
 	return validShape(m.Width, m.Height, m.Planes) &&
 		len(m.Data) == m.Width*m.Height*m.Planes && areBytes(m.Data)
+}
+
+// validPlane reports whether an image is valid and has one plane.
+func validPlane(m Image) bool {
+	return ValidImage(m) && m.Planes == 1
 }
 
 // FillImage returns an image with equal pixels.

@@ -24,6 +24,16 @@ func transpose[T any](g grid[T]) grid[T] {
 	return rearrange(g, g.height, g.width, func(x int, y int) (int, int) { return y, x })
 }
 
+// changeNumbers returns a valid image in which each number is replaced by what
+// a function makes of it.
+func changeNumbers(m Image, change func(n int) int) Image {
+	data := make([]int, len(m.Data))
+	for i, n := range m.Data {
+		data[i] = change(n)
+	}
+	return Image{Width: m.Width, Height: m.Height, Planes: m.Planes, Data: data}
+}
+
 // MirrorImage returns an image with its columns in reverse order.
 func MirrorImage(m Image) Image {
 	if !ValidImage(m) {
@@ -57,9 +67,5 @@ func InvertImage(m Image) Image {
 	if !ValidImage(m) {
 		return Image{}
 	}
-	data := make([]int, len(m.Data))
-	for i, n := range m.Data {
-		data[i] = maxNumber - n
-	}
-	return Image{Width: m.Width, Height: m.Height, Planes: m.Planes, Data: data}
+	return changeNumbers(m, func(n int) int { return maxNumber - n })
 }
